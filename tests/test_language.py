@@ -1,0 +1,144 @@
+"""The rules of the language that can be seen from the files alone, and the interface."""
+
+import ast
+import builtins
+import pathlib
+import re
+import unittest
+import warnings
+
+PACKAGE = pathlib.Path(__file__).resolve().parent.parent / "whatnext"
+
+DEFINED = {
+    "errors.py": (
+        "NextError", "NoBook", "Bent", "TooGreat", "NoCarry", "NoAsking", "NoMost", "NoText", "NoRow", "NoStand",
+    ),
+    "books.py": ("is_word", "is_simple", "why_no_book", "need_book", "parts_of", "all_places", "term_at"),
+    "runs.py": ("run",),
+}
+
+ALLOWED = set(
+    "len range enumerate zip min max sum abs sorted reversed int str bool bytes list tuple dict set frozenset"
+    " isinstance ord repr any all divmod iter next super property staticmethod classmethod"
+    " Exception ValueError TypeError KeyError IndexError LookupError ZeroDivisionError ArithmeticError"
+    " OverflowError RuntimeError NotImplementedError AttributeError StopIteration NotImplemented".split()
+)
+
+METHODS = set(
+    "append clear copy count endswith extend find get index insert isalnum isalpha isdigit islower isspace isupper"
+    " items join keys ljust lower lstrip partition pop remove replace reverse rfind rjust rpartition rsplit rstrip"
+    " setdefault sort split splitlines startswith strip update upper values zfill bit_length title capitalize"
+    " swapcase casefold center expandtabs removeprefix removesuffix rindex isascii isdecimal isnumeric istitle"
+    " isidentifier isprintable add discard".split()
+)
+
+BARRED = (
+    "type typing typing_extensions enum Enum IntEnum StrEnum Flag IntFlag Generic Protocol ABC ABCMeta namedtuple"
+    " NamedTuple TypedDict TYPE_CHECKING abstractmethod"
+).split()
+
+UNUSED = (ast.Global, ast.AsyncFunctionDef, ast.Await, ast.Import, ast.Div, ast.AnnAssign)
+
+
+def files():
+    return sorted(PACKAGE.rglob("*.py"))
+
+
+def names_bound(tree):
+    for node in ast.walk(tree):
+        if isinstance(node, ast.arg):
+            yield node.arg
+        elif isinstance(node, (ast.FunctionDef, ast.ClassDef)):
+            yield node.name
+        elif isinstance(node, ast.Name) and isinstance(node.ctx, ast.Store):
+            yield node.id
+        elif isinstance(node, ast.Attribute) and isinstance(node.ctx, ast.Store):
+            yield node.attr
+
+
+class LanguageTest(unittest.TestCase):
+    def test_the_folder_holds_only_python_files(self):
+        for path in PACKAGE.rglob("*"):
+            if path.name != "__pycache__" and path.parent.name != "__pycache__":
+                self.assertRegex(path.name, r"^[a-z0-9_]+\.py$")
+
+    def test_size_and_signs(self):
+        for path in files():
+            text = path.read_text()
+            lines = text.splitlines()
+            self.assertLessEqual(len(lines), 399, path)
+            self.assertEqual(re.sub(r"[ -~\n]", "", text), "", path)
+            for number, line in enumerate(lines, 1):
+                self.assertLessEqual(len(line), 120, (path, number))
+
+    def test_functions_are_short(self):
+        for path in files():
+            for node in ast.walk(ast.parse(path.read_text())):
+                if isinstance(node, ast.FunctionDef):
+                    self.assertLessEqual(node.end_lineno - node.lineno + 1, 40, (path, node.name))
+
+    def test_nothing_is_warned_of(self):
+        with warnings.catch_warnings():
+            warnings.simplefilter("error")
+            for path in files():
+                compile(path.read_text(), str(path), "exec")
+
+    def test_words_that_do_not_occur(self):
+        for path in files():
+            for word in re.findall(r"[A-Za-z_]+", path.read_text()):
+                self.assertNotIn(word, BARRED, path)
+
+    def test_names(self):
+        for path in files():
+            for name in names_bound(ast.parse(path.read_text())):
+                if name not in ("__init__", "__eq__", "__repr__", "__str__", "__len__"):
+                    self.assertRegex(name, r"^[A-Za-z]", path)
+                    self.assertFalse(hasattr(builtins, name), (path, name))
+
+    def test_builtins(self):
+        for path in files():
+            for node in ast.walk(ast.parse(path.read_text())):
+                if isinstance(node, ast.Name) and hasattr(builtins, node.id):
+                    self.assertIn(node.id, ALLOWED, path)
+
+    def test_methods(self):
+        trees = [ast.parse(path.read_text()) for path in files()]
+        own = {node.name for tree in trees for node in ast.walk(tree) if isinstance(node, ast.FunctionDef)}
+        for tree in trees:
+            for node in ast.walk(tree):
+                if isinstance(node, ast.Call) and isinstance(node.func, ast.Attribute):
+                    self.assertIn(node.func.attr, own | METHODS)
+
+    def test_a_method_is_no_attribute_elsewhere(self):
+        trees = [ast.parse(path.read_text()) for path in files()]
+        methods, attributes = set(), set()
+        for node in [node for tree in trees for node in ast.walk(tree)]:
+            if isinstance(node, ast.ClassDef):
+                methods.update(row.name for row in node.body if isinstance(row, ast.FunctionDef))
+            if isinstance(node, ast.Attribute) and isinstance(node.ctx, ast.Store):
+                attributes.add(node.attr)
+        self.assertEqual(methods & attributes, set())
+
+    def test_statements_that_are_not_used(self):
+        for path in files():
+            for node in ast.walk(ast.parse(path.read_text())):
+                self.assertNotIsInstance(node, UNUSED, path)
+                self.assertFalse(isinstance(node, ast.Constant) and isinstance(node.value, float), path)
+
+    def test_imports_are_from_the_package_only(self):
+        for path in files():
+            for node in ast.walk(ast.parse(path.read_text())):
+                if isinstance(node, ast.ImportFrom):
+                    self.assertEqual(node.level, 0, path)
+                    self.assertTrue(node.module.startswith("whatnext."), path)
+
+    def test_the_interface_is_defined_where_it_is_listed(self):
+        for name, listed in DEFINED.items():
+            tree = ast.parse((PACKAGE / name).read_text())
+            defined = [node.name for node in tree.body if isinstance(node, (ast.FunctionDef, ast.ClassDef))]
+            for each in listed:
+                self.assertIn(each, defined, name)
+
+
+if __name__ == "__main__":
+    unittest.main()

@@ -1,0 +1,1 @@
+"""Whatnext: asks that are handed what comes next."""
