@@ -51,11 +51,13 @@ class Reference:
         self.kinds = {name: led_and_last(name, body) for name, names, body in book}
         self.most, self.asked = most, 0
         self.trail, self.deepest, self.left = [], 0, 0
+        self.not_last = 0
 
-    def ask(self, f, numbers, waiting):
+    def ask(self, f, numbers, waiting, is_last=True):
         if self.asked >= self.most:
             raise Long
         self.asked += 1
+        self.not_last += not is_last
         self.trail.append(("ask", f, tuple(numbers)))
         self.deepest = max(self.deepest, waiting)
         names, body = self.bodies[f]
@@ -83,13 +85,19 @@ class Reference:
         if sort in KINDS_WITH_TWO:
             return (values[0] + (values[1] if sort == "plus" else -values[1])) % 1000
         self.left += place not in led
-        return self.ask(term[1], values, waiting + (place not in last))
+        is_last = place in last
+        return self.ask(term[1], values, waiting + (not is_last), is_last)
 
 
 def run_reference(book, f, numbers, most):
+    return run_and_count(book, f, numbers, most)[0]
+
+
+def run_and_count(book, f, numbers, most):
+    """The run, and how many asks that aren't last were done in it."""
     running = Reference(book, most)
     try:
         end = ("done", running.ask(f, numbers, 0))
     except Long:
         end = ("long",)
-    return running.trail, end, running.deepest, running.left
+    return (running.trail, end, running.deepest, running.left), running.not_last

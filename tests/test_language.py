@@ -15,6 +15,9 @@ DEFINED = {
     ),
     "books.py": ("is_word", "is_simple", "why_no_book", "need_book", "parts_of", "all_places", "term_at"),
     "runs.py": ("run",),
+    "lasts.py": ("last_places", "led_places"),
+    "turnedbooks.py": ("is_turned", "turned_parts"),
+    "turnedruns.py": ("run_turned",),
 }
 
 ALLOWED = set(

@@ -1,8 +1,8 @@
 import copy
 import unittest
 
+from tests.refusals import Refusals
 from tests.terms import ask, book_of, chain, less, let, name, num, plus, tell, when
-from whatnext.errors import NextError, NoAsking, NoMost
 from whatnext.runs import run
 
 ONE = num(1)
@@ -275,47 +275,11 @@ class MostTest(unittest.TestCase):
         self.assertEqual(len(run(book_of(ask("f")), "f", (), 2999)[0]), 2999)
 
 
-class RefusalsTest(unittest.TestCase):
+class RefusalsTest(Refusals, unittest.TestCase):
     book = (("f", ("n", "m"), plus(N, M)), ("g", (), ONE))
 
-    def test_no_asking(self):
-        for f, numbers in (
-            ("h", ()),
-            ("h", (1, 2)),
-            ("n", ()),
-            ("", ()),
-            ("F", (1, 2)),
-            ("f ", (1, 2)),
-            ("home", ()),
-            ("f", ()),
-            ("f", (1,)),
-            ("f", (1, 2, 3)),
-            ("g", (1,)),
-            ("f", (True, 2)),
-            ("f", [1, 2]),
-            ("g", None),
-            (None, ()),
-            (["g"], ()),
-        ):
-            with self.subTest(f=f, numbers=numbers), self.assertRaises(NoAsking) as caught:
-                run(self.book, f, numbers, 5)
-            self.assertIsInstance(caught.exception, NextError)
-
-    def test_no_most(self):
-        for most in (-1, -3000, 3001, 10**30, True, False, None):
-            with self.subTest(most=most), self.assertRaises(NoMost) as caught:
-                run(self.book, "f", (1, 2), most)
-            self.assertIsInstance(caught.exception, NextError)
-
-    def test_no_asking_goes_ahead_of_no_most(self):
-        for f, numbers in (("h", ()), ("f", (1,)), ("g", (1,))):
-            for most in (-1, 3001):
-                with self.subTest(f=f, most=most), self.assertRaises(NoAsking):
-                    run(self.book, f, numbers, most)
-
-    def test_the_bounds_themselves(self):
-        self.assertEqual(run(self.book, "f", (1, 2), 0)[1], ("long",))
-        self.assertEqual(run(self.book, "f", (1, 2), 3000)[1], ("done", 3))
+    def runs(self, f, numbers, most):
+        return run(self.book, f, numbers, most)
 
 
 class ToldTest(unittest.TestCase):

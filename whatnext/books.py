@@ -1,10 +1,10 @@
 """Books: errands, the terms of their bodies, and the places of these.
 
-Nothing here calls itself: terms may lie deep within one another, so what is
-still to be looked at is kept in a list.
+Nothing here calls itself, as terms may lie deep within one another.
 """
 
 from whatnext.errors import NoBook
+from whatnext.walks import met, placed
 
 KEPT_WORDS = ("let", "be", "in", "tell", "if", "then", "else", "home")
 MOST_SIGNS = 8
@@ -13,6 +13,8 @@ MOST_ERRANDS = 6
 MOST_NAMES = 4
 MOST_TERMS = 40
 MOST_AROUND = 12
+
+SIMPLE_HEADS = ("number", "name", "plus", "less")
 
 # How many items a term has, by its first one, which is counted.
 TERM_ITEMS = {"number": 2, "name": 2, "plus": 3, "less": 3, "tell": 2, "let": 4, "if": 4, "ask": 3}
@@ -43,14 +45,15 @@ def parts_of(term):
     return term[1:]
 
 
+def first_parts(term):
+    """The parts that are done whatever their numbers are."""
+    if term[0] in ("let", "if"):
+        return parts_of(term)[:1]
+    return parts_of(term)
+
+
 def is_simple(term):
-    waiting = [term]
-    while waiting:
-        one = waiting.pop()
-        if one[0] not in ("number", "name", "plus", "less"):
-            return False
-        waiting.extend(parts_of(one))
-    return True
+    return all([one[0] in SIMPLE_HEADS for one in met(term, parts_of)])
 
 
 def errand_named(book, f):
@@ -61,24 +64,10 @@ def errand_named(book, f):
     return None
 
 
-def placed_terms(name, body):
-    """Each term of the body behind its place, as places rise."""
-    found = []
-    waiting = [((name,), body)]
-    while waiting:
-        place, term = waiting.pop()
-        found.append((place, term))
-        parts = parts_of(term)
-        # The last one put here is taken first, so the first part goes in last.
-        for k in reversed(range(len(parts))):
-            waiting.append(((*place, k), parts[k]))
-    return found
-
-
 def all_places(book):
     places = []
     for name, names, body in book:
-        places.extend([place for place, term in placed_terms(name, body)])
+        places.extend([place for place, term in placed(name, body, parts_of)])
     return places
 
 
@@ -89,13 +78,18 @@ def term_at(book, place):
     return term
 
 
+def words_in(names, body):
+    """An errand's names, then the words of its lets as they are met."""
+    return [*names, *[term[1] for term in met(body, parts_of) if term[0] == "let"]]
+
+
 def why_no_book(thing):
     """Of anything: "shape", "names" or "great", or None where it is a book."""
-    if not is_made_as_book(thing):
+    if not are_made_as_errands(thing, is_made_as_term):
         return "shape"
     if not have_names_right(thing):
         return "names"
-    if any([is_great(name, body) for name, names, body in thing]):
+    if any([is_great(placed(name, body, parts_of), MOST_TERMS, MOST_AROUND) for name, names, body in thing]):
         return "great"
     return None
 
@@ -106,19 +100,20 @@ def need_book(thing):
         raise NoBook(fault)
 
 
-def is_made_as_book(thing):
+def are_made_as_errands(thing, is_body):
+    """Whether it is made as a book is, is_body telling of a body whether it is made so."""
     if not isinstance(thing, tuple) or not 1 <= len(thing) <= MOST_ERRANDS:
         return False
-    return all([is_made_as_errand(errand) for errand in thing])
+    return all([is_made_as_errand(errand, is_body) for errand in thing])
 
 
-def is_made_as_errand(thing):
+def is_made_as_errand(thing, is_body):
     if not isinstance(thing, tuple) or len(thing) != 3:
         return False
     name, names, body = thing
     if not is_word(name) or not is_short_tuple(names):
         return False
-    return all([is_word(word) for word in names]) and is_made_as_term(body)
+    return all([is_word(word) for word in names]) and is_body(body)
 
 
 def is_short_tuple(thing):
@@ -136,13 +131,18 @@ def is_made_as_term(thing):
     return True
 
 
-def has_own_items_right(thing):
-    """Whether all is made as in a term but, perhaps, what its parts are."""
+def has_head_of(thing, items):
+    """Whether it is a tuple with as many items as items tells of its first one, a text."""
     if not isinstance(thing, tuple) or not thing or not isinstance(thing[0], str):
         return False
-    head = thing[0]
-    if TERM_ITEMS.get(head) != len(thing):
+    return items.get(thing[0]) == len(thing)
+
+
+def has_own_items_right(thing):
+    """Whether all is made as in a term but, perhaps, what its parts are."""
+    if not has_head_of(thing, TERM_ITEMS):
         return False
+    head = thing[0]
     if head == "number":
         return is_number(thing[1])
     if head in ("name", "let"):
@@ -154,22 +154,23 @@ def has_own_items_right(thing):
 
 def have_names_right(errands):
     """Whether things made as errands have the names, and ask, as in a book."""
-    many = {name: len(names) for name, names, body in errands}
+    many = many_names(errands)
     if len(many) != len(errands):
         return False
     for name, names, body in errands:
-        if not are_words_unlike(name, names, body) or not are_names_around(names, body):
+        if not are_unlike(words_in(names, body)) or not are_names_around(names, body):
             return False
-        if not are_asks_right(name, body, many):
+        if not are_asks_right(met(body, parts_of), many):
             return False
     return True
 
 
-def are_words_unlike(name, names, body):
-    words = list(names)
-    for place, term in placed_terms(name, body):
-        if term[0] == "let":
-            words.append(term[1])
+def many_names(errands):
+    """How many names an errand has, by its name."""
+    return {name: len(names) for name, names, body in errands}
+
+
+def are_unlike(words):
     return len(set(words)) == len(words)
 
 
@@ -188,15 +189,12 @@ def are_names_around(names, body):
     return True
 
 
-def are_asks_right(name, body, many):
-    """Whether each ask is of an errand, with as many terms as many tells of it."""
-    for place, term in placed_terms(name, body):
-        if term[0] == "ask" and many.get(term[1]) != len(term[2]):
-            return False
-    return True
+def are_asks_right(found, many):
+    """Whether each ask found is of an errand, with as many terms as many tells of it."""
+    return all([many.get(one[1]) == len(one[2]) for one in found if one[0] == "ask"])
 
 
-def is_great(name, body):
-    placed = placed_terms(name, body)
-    # A place has, behind the errand's name, a number for each term around.
-    return len(placed) > MOST_TERMS or any([len(place) - 1 > MOST_AROUND for place, term in placed])
+def is_great(found, most, most_around):
+    """Whether there are more placed parts than most, or one within more others than most_around."""
+    # A place has, behind the errand's name, a number for each part around.
+    return len(found) > most or any([len(place) - 1 > most_around for place, part in found])

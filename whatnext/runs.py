@@ -1,10 +1,10 @@
 """Runs: an errand asked, its trail, its end, who waits and what is left."""
 
-from whatnext.books import parts_of
+from whatnext.books import first_parts
 from whatnext.needs import need_asking, need_most
+from whatnext.simple import combined
 
 MOST_ASKS = 3000
-NUMBERS = 1000
 
 
 def run(book, f, numbers, most):
@@ -15,13 +15,6 @@ def run(book, f, numbers, most):
     running.ask(f, numbers, 0)
     running.go()
     return running.trail, running.end, running.deepest, running.left
-
-
-def first_parts(term):
-    """The parts that are done whatever their numbers are."""
-    if term[0] in ("let", "if"):
-        return parts_of(term)[:1]
-    return parts_of(term)
 
 
 class Asking:
@@ -106,10 +99,7 @@ class Running:
     def combine(self, head):
         second = self.got.pop()
         first = self.got.pop()
-        if head == "plus":
-            self.got.append((first + second) % NUMBERS)
-        else:
-            self.got.append((first - second) % NUMBERS)
+        self.got.append(combined(head, first, second))
 
     def let(self, step):
         # A word is given once in an errand, so nothing is put out of its place.
