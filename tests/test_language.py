@@ -18,6 +18,10 @@ DEFINED = {
     "lasts.py": ("last_places", "led_places"),
     "turnedbooks.py": ("is_turned", "turned_parts"),
     "turnedruns.py": ("run_turned",),
+    "anew.py": ("anew", "word_of", "book_anew", "are_alike"),
+    "turning.py": ("turn_book",),
+    "back.py": ("bent_at", "back", "is_neat", "named_book"),
+    "laid.py": ("is_laid", "laid"),
 }
 
 ALLOWED = set(
@@ -45,6 +49,18 @@ UNUSED = (ast.Global, ast.AsyncFunctionDef, ast.Await, ast.Import, ast.Div, ast.
 
 def files():
     return sorted(PACKAGE.rglob("*.py"))
+
+
+def with_parents():
+    """Each node of each file, behind its path, with the node right around it."""
+    for path in files():
+        for around in ast.walk(ast.parse(path.read_text())):
+            for node in ast.iter_child_nodes(around):
+                yield path, node, around
+
+
+def is_call_of(node, names):
+    return isinstance(node, ast.Call) and isinstance(node.func, ast.Name) and node.func.id in names
 
 
 def names_bound(tree):
@@ -134,6 +150,83 @@ class LanguageTest(unittest.TestCase):
                 if isinstance(node, ast.ImportFrom):
                     self.assertEqual(node.level, 0, path)
                     self.assertTrue(node.module.startswith("whatnext."), path)
+
+    def test_lists_and_dicts_of_a_module_are_only_read(self):
+        for path in files():
+            tree = ast.parse(path.read_text())
+            kept = (ast.List, ast.Dict)
+            names = {row.targets[0].id for row in tree.body if isinstance(row, ast.Assign) and isinstance(row.value, kept)}
+            for around in ast.walk(tree):
+                for node in ast.iter_child_nodes(around):
+                    if isinstance(node, ast.Name) and node.id in names and isinstance(node.ctx, ast.Load):
+                        is_method = isinstance(around, ast.Attribute) and around.attr in ("get", "count", "index")
+                        is_read = isinstance(around, (ast.Subscript, ast.Compare, ast.For, ast.comprehension))
+                        is_copied = is_call_of(around, ("len", "list", "dict", "sorted", "tuple"))
+                        self.assertTrue(is_method or is_read or is_copied, (path, node.lineno))
+
+    def test_no_local_name_is_that_of_an_import_or_class(self):
+        for path in files():
+            tree = ast.parse(path.read_text())
+            taken = {name.asname or name.name for row in tree.body if isinstance(row, ast.ImportFrom) for name in row.names}
+            taken |= {row.name for row in tree.body if isinstance(row, ast.ClassDef)}
+            for node in ast.walk(tree):
+                if isinstance(node, ast.arg):
+                    self.assertNotIn(node.arg, taken, path)
+                if isinstance(node, ast.Name) and isinstance(node.ctx, ast.Store):
+                    self.assertNotIn(node.id, taken, path)
+
+    def test_imports_name_the_file_that_defines_the_name(self):
+        for path in files():
+            for row in ast.parse(path.read_text()).body:
+                if isinstance(row, ast.ImportFrom):
+                    other = PACKAGE / (row.module.split(".")[1] + ".py")
+                    bound = set(names_bound(ast.Module(ast.parse(other.read_text()).body, [])))
+                    self.assertLessEqual({name.name for name in row.names}, bound, path)
+
+    def test_no_two_files_import_one_another(self):
+        ahead = {}
+        for path in files():
+            rows = [row for row in ast.parse(path.read_text()).body if isinstance(row, ast.ImportFrom)]
+            ahead[path.stem] = {row.module.split(".")[1] for row in rows}
+        while ahead:
+            free = [stem for stem in ahead if not ahead[stem] & set(ahead)]
+            self.assertTrue(free, ahead)
+            for stem in free:
+                del ahead[stem]
+
+    def test_what_is_iterated_at_once(self):
+        takers = ("list", "tuple", "dict", "sorted", "sum", "any", "all", "enumerate", "zip", "min", "max")
+        for path, node, around in with_parents():
+            is_view = isinstance(node, ast.Call) and isinstance(node.func, ast.Attribute)
+            if is_call_of(node, ("zip", "enumerate", "reversed", "range")) or (
+                is_view and node.func.attr in ("items", "keys", "values")
+            ):
+                is_looped = isinstance(around, (ast.For, ast.comprehension)) and around.iter is node
+                is_reversed = is_call_of(around, ("reversed",)) and is_call_of(node, ("range",))
+                is_tested = isinstance(around, ast.Compare) and node in around.comparators
+                self.assertTrue(is_looped or is_reversed or is_tested or is_call_of(around, takers), (path, node.lineno))
+
+    def test_where_sets_stand(self):
+        for path, node, around in with_parents():
+            if is_call_of(node, ("set",)) or isinstance(node, (ast.Set, ast.SetComp)):
+                is_taken = is_call_of(around, ("len", "sorted"))
+                is_stored = isinstance(around, ast.Assign) and isinstance(around.targets[0], ast.Name)
+                self.assertTrue(is_taken or is_stored or isinstance(around, ast.Compare), (path, node.lineno))
+
+    def test_stars_of_calls(self):
+        plain = (ast.Name, ast.Attribute, ast.List, ast.Tuple)
+        for path, node, around in with_parents():
+            if isinstance(node, ast.Starred) and isinstance(around, ast.Call):
+                self.assertIsInstance(node.value, plain, (path, around.lineno))
+            self.assertNotIsInstance(node, (ast.GeneratorExp, ast.Yield, ast.YieldFrom), path)
+
+    def test_functions_do_not_call_themselves(self):
+        for path in files():
+            for node in ast.walk(ast.parse(path.read_text())):
+                if isinstance(node, ast.FunctionDef):
+                    called = [one.func for one in ast.walk(node) if isinstance(one, ast.Call)]
+                    names = [one.id if isinstance(one, ast.Name) else getattr(one, "attr", None) for one in called]
+                    self.assertNotIn(node.name, names, path)
 
     def test_the_interface_is_defined_where_it_is_listed(self):
         for name, listed in DEFINED.items():

@@ -131,16 +131,14 @@ def is_made_as_term(thing):
     return True
 
 
-def has_head_of(thing, items):
-    """Whether it is a tuple with as many items as items tells of its first one, a text."""
-    if not isinstance(thing, tuple) or not thing or not isinstance(thing[0], str):
-        return False
-    return items.get(thing[0]) == len(thing)
+def has_head(thing):
+    """Whether it is a tuple whose first item is a text, as that of each part is."""
+    return isinstance(thing, tuple) and len(thing) > 0 and isinstance(thing[0], str)
 
 
 def has_own_items_right(thing):
     """Whether all is made as in a term but, perhaps, what its parts are."""
-    if not has_head_of(thing, TERM_ITEMS):
+    if not has_head(thing) or TERM_ITEMS.get(thing[0]) != len(thing):
         return False
     head = thing[0]
     if head == "number":

@@ -5,7 +5,7 @@ from whatnext.books import (
     are_asks_right,
     are_made_as_errands,
     are_unlike,
-    has_head_of,
+    has_head,
     is_great,
     is_made_as_term,
     is_short_tuple,
@@ -96,7 +96,7 @@ def is_made_as_part(thing):
 
 def has_part_items_right(thing):
     """Whether all is made as in a turned part but, perhaps, what its parts are."""
-    if not has_head_of(thing, PART_ITEMS):
+    if not has_head(thing) or PART_ITEMS.get(thing[0]) != len(thing):
         return False
     head = thing[0]
     if head == "give":
