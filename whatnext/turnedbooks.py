@@ -44,6 +44,11 @@ def rest_of(part):
     return part[3:]
 
 
+def with_rest(part, rest):
+    """The part with these turned parts right in it, which always stand last."""
+    return part[: len(part) - len(rest)] + rest
+
+
 def turned_parts(part):
     """The parts right in this one, a turned part or a simple term, in order."""
     if part[0] in SIMPLE_HEADS:

@@ -1,9 +1,9 @@
 """Runs of turned books: nobody waits, but each ask is handed what comes next."""
 
 from whatnext.needs import need_asking, need_most
+from whatnext.passing import passed
 from whatnext.runs import MOST_ASKS
-from whatnext.simple import number_of
-from whatnext.turnedbooks import HOME, terms_in
+from whatnext.turnedbooks import HOME
 
 
 def run_turned(turned, f, numbers, most):
@@ -43,7 +43,7 @@ class TurnedRunning:
 
     def go(self):
         while self.end is None:
-            self.pass_part(self.part)
+            self.pass_part()
 
     def ask(self, f, numbers, home):
         if self.asked == self.most:
@@ -57,22 +57,15 @@ class TurnedRunning:
         self.words = dict(zip(names, numbers))
         self.hands = {HOME: home}
 
-    def pass_part(self, part):
-        head = part[0]
-        told = [number_of(term, self.words) for term in terms_in(part)]
-        if head == "give":
-            self.give(self.hands[part[1]], told[0])
-        elif head == "ask":
-            self.ask(part[1], tuple(told), self.hands[part[3]])
-        elif head == "post":
-            self.make(part)
-        elif head == "if":
-            self.part = part[3] if told[0] == 0 else part[2]
+    def pass_part(self):
+        told, stand = passed(
+            self.part, self.words, self.hands, lambda post, words, hands: self.make(post, words, hands)
+        )
+        self.trail.extend([("tell", number) for number in told])
+        if stand[0] == "give":
+            self.give(stand[2], stand[1])
         else:
-            if head == "tell":
-                self.trail.append(("tell", told[0]))
-            self.words[part[1]] = told[0]
-            self.part = part[3]
+            self.ask(stand[1], stand[2], stand[3])
 
     def give(self, hand, number):
         if hand.post is None:
@@ -82,8 +75,6 @@ class TurnedRunning:
         self.words = {**hand.words, hand.post[2]: number}
         self.hands = hand.hands
 
-    def make(self, post):
+    def make(self, post, words, hands):
         self.made += 1
-        hand = HandOn(post, dict(self.words), self.hands, self.hands[HOME].height + 1)
-        self.hands = {**self.hands, post[1]: hand}
-        self.part = post[4]
+        return HandOn(post, words, hands, hands[HOME].height + 1)
