@@ -25,6 +25,10 @@ DEFINED = {
     "slim.py": ("idle_places", "slim"),
     "stands.py": ("cards", "is_stand", "behind"),
     "rounds.py": ("gone_on",),
+    "waits.py": ("most_waiting", "shows_most", "shows_ring"),
+    "carried.py": ("not_carried_at", "carried"),
+    "texts.py": ("show_book", "show_turned", "read_book"),
+    "desk.py": ("Desk",),
 }
 
 ALLOWED = set(

@@ -1,14 +1,19 @@
-"""What a run of an errand needs, of a book or of a turned one."""
+"""What an errand that is asked needs, of a book or of a turned one."""
 
 from whatnext.books import errand_named, is_whole
 from whatnext.errors import NoAsking, NoMost
 
 
+def need_errand(book, f):
+    """Refuse with NoAsking where no errand is named f."""
+    if errand_named(book, f) is None:
+        raise NoAsking("no errand has this name")
+
+
 def need_asking(book, f, numbers):
     """Refuse with NoAsking where f can't be asked with these numbers."""
+    need_errand(book, f)
     errand = errand_named(book, f)
-    if errand is None:
-        raise NoAsking("no errand has this name")
     if not isinstance(numbers, tuple) or not all([is_whole(number) for number in numbers]):
         raise NoAsking("numbers are a tuple of whole numbers")
     if len(numbers) != len(errand[1]):

@@ -3,6 +3,7 @@
 from whatnext.books import first_parts
 from whatnext.needs import need_asking, need_most
 from whatnext.simple import combined
+from whatnext.walks import last_taken
 
 MOST_ASKS = 3000
 
@@ -115,8 +116,6 @@ class Running:
     def ask_from(self, step):
         if not step.led:
             self.left += 1
-        first = len(self.got) - len(step.term[2])
-        numbers = tuple(self.got[first:])
-        del self.got[first:]
+        numbers = last_taken(self.got, len(step.term[2]))
         waiting = step.asking.waiting if step.last else step.asking.waiting + 1
         self.ask(step.term[1], numbers, waiting)

@@ -7,6 +7,7 @@ be done with a term is told as jobs, in the order in which they are due.
 from whatnext.books import words_in
 from whatnext.newwords import NewWords
 from whatnext.turnedbooks import HOME
+from whatnext.walks import last_taken
 
 
 def turn_book(book):
@@ -109,17 +110,10 @@ class Turning:
         elif head == "known":
             self.got.append(job[1])
         elif head == "ask":
-            self.got.append((head, job[1], self.taken_back(job[2]), job[3]))
+            self.got.append((head, job[1], last_taken(self.got, job[2]), job[3]))
         elif head == "give":
             self.got.append((*job, self.got.pop()))
         elif head == "if":
-            self.got.append((head, *self.taken_back(3)))
+            self.got.append((head, *last_taken(self.got, 3)))
         else:
-            self.got.append((head, *self.taken_back(2)))
-
-    def taken_back(self, many):
-        """So many that were left last, in the order in which they were."""
-        first = len(self.got) - many
-        taken = tuple(self.got[first:])
-        del self.got[first:]
-        return taken
+            self.got.append((head, *last_taken(self.got, 2)))

@@ -38,11 +38,16 @@ def remade(body, parts, made):
         part, are_parts_done = waiting.pop()
         own = parts(part)
         if are_parts_done:
-            first = len(got) - len(own)
-            told = tuple(got[first:])
-            del got[first:]
-            got.append(made(part, told))
+            got.append(made(part, last_taken(got, len(own))))
         else:
             waiting.append((part, True))
             waiting.extend([(one, False) for one in own[::-1]])
     return got.pop()
+
+
+def last_taken(got, many):
+    """The last so many of what was got, in their order; got is without them then."""
+    first = len(got) - many
+    taken = tuple(got[first:])
+    del got[first:]
+    return taken
